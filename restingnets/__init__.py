@@ -1,0 +1,1 @@
+"""Electric networks at rest, reckoned exactly."""

@@ -1,0 +1,28 @@
+"""The calls: each takes a network's row and gives back a list of whole numbers."""
+
+from restingnets.faults import first_fault
+from restingnets.rows import current_count, diode_count, is_row, parts_of
+
+ANSWERED = 0
+NO_ROW = -1
+WRONG_NETWORK = -2
+
+
+def refusal_of(net):
+    """The refusal that every call gives for this row, or an empty list."""
+    if not is_row(net):
+        return [NO_ROW]
+    fault = first_fault(parts_of(net), net[0])
+    if fault:
+        return [WRONG_NETWORK] + fault
+    return []
+
+
+def judge(net):
+    """Answers N, how many elements, how many diodes and how many unknowns there are."""
+    refusal = refusal_of(net)
+    if refusal:
+        return refusal
+    parts = parts_of(net)
+    unknowns = net[0] + current_count(parts)
+    return [ANSWERED, net[0], len(parts), diode_count(parts), unknowns]
