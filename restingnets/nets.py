@@ -1,11 +1,14 @@
 """The calls: each takes a network's row and gives back a list of whole numbers."""
 
+from restingnets.columns import Columns
 from restingnets.faults import first_fault
+from restingnets.points import diode_places, operating_point
 from restingnets.rows import current_count, diode_count, is_row, parts_of
 
 ANSWERED = 0
 NO_ROW = -1
 WRONG_NETWORK = -2
+NO_POINT = -4
 
 
 def refusal_of(net):
@@ -26,3 +29,15 @@ def judge(net):
     parts = parts_of(net)
     unknowns = net[0] + current_count(parts)
     return [ANSWERED, net[0], len(parts), diode_count(parts), unknowns]
+
+
+def point(net):
+    """Answers for each diode 1 if it is on at the operating point, 0 if it is off."""
+    refusal = refusal_of(net)
+    if refusal:
+        return refusal
+    parts = parts_of(net)
+    found = operating_point(parts, Columns(parts, net[0]))
+    if found is None:
+        return [NO_POINT]
+    return [ANSWERED] + [found.states[k] for k in diode_places(parts)]

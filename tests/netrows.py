@@ -52,3 +52,13 @@ def changed(row, index, number):
     copy = list(row)
     copy[index] = number
     return copy
+
+
+class Unchangeable(list):
+    """A list that can't be changed, so that not even a change that is undone goes unseen."""
+
+    def refuse(self, *arguments, **named):
+        raise AssertionError("the row was changed")
+
+    append = extend = insert = pop = remove = clear = reverse = sort = refuse
+    __setitem__ = __delitem__ = __iadd__ = __imul__ = refuse

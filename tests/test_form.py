@@ -132,6 +132,36 @@ class Form(unittest.TestCase):
                 if isinstance(node, ast.Name) and node.id not in bound:
                     self.assertIn(node.id, OWN_NAMES, name)
 
+    def test_locals_are_not_called_like_what_stands_at_the_top(self):
+        for name, tree in self.trees.items():
+            top = [node.name for node in tree.body if isinstance(node, (ast.FunctionDef, ast.ClassDef))]
+            top += [alias.name for node in tree.body if isinstance(node, ast.ImportFrom) for alias in node.names]
+            for node in ast.walk(tree):
+                if isinstance(node, ast.Name) and isinstance(node.ctx, ast.Store):
+                    self.assertNotIn(node.id, top, name)
+                if isinstance(node, ast.arg):
+                    self.assertNotIn(node.arg, top, name)
+
+    def test_no_files_draw_from_one_another(self):
+        drawn = {
+            name[:-3]: [node.module.split(".")[1] for node in tree.body if isinstance(node, ast.ImportFrom)]
+            for name, tree in self.trees.items()
+        }
+        left = dict(drawn)
+        while left:
+            free = [name for name in left if not any(other in left for other in left[name])]
+            self.assertTrue(free, left)
+            left = {name: others for name, others in left.items() if name not in free}
+
+    def test_own_methods_are_not_called_like_those_of_pythons_values(self):
+        kept = [node.attr for name, node in self.nodes(ast.Attribute) if isinstance(node.ctx, ast.Store)]
+        for name, node in self.nodes(ast.ClassDef):
+            for method in node.body:
+                if isinstance(method, ast.FunctionDef) and method.name != "__init__":
+                    self.assertNotIn(method.name, kept, name)
+                    for value in (0, "", [], (), {}, set(), b""):
+                        self.assertFalse(hasattr(value, method.name), f"{name} {method.name}")
+
     def test_methods_and_values(self):
         own = [node.name for name, node in self.nodes(ast.FunctionDef)]
         kept = [node.attr for name, node in self.nodes(ast.Attribute) if isinstance(node.ctx, ast.Store)]
