@@ -3,11 +3,13 @@
 from restingnets.columns import Columns
 from restingnets.faults import first_fault
 from restingnets.points import diode_places, operating_point
+from restingnets.quantities import has_quantity, quantity
 from restingnets.rows import current_count, diode_count, is_row, parts_of
 
 ANSWERED = 0
 NO_ROW = -1
 WRONG_NETWORK = -2
+NO_SUCH = -3
 NO_POINT = -4
 
 
@@ -41,3 +43,18 @@ def point(net):
     if found is None:
         return [NO_POINT]
     return [ANSWERED] + [found.states[k] for k in diode_places(parts)]
+
+
+def at(what, k, net):
+    """Answers quantity what of node or element k at the operating point."""
+    refusal = refusal_of(net)
+    if refusal:
+        return refusal
+    parts = parts_of(net)
+    if not has_quantity(what, k, parts, net[0]):
+        return [NO_SUCH]
+    columns = Columns(parts, net[0])
+    found = operating_point(parts, columns)
+    if found is None:
+        return [NO_POINT]
+    return [ANSWERED] + quantity(what, k, parts, columns, found.solution)

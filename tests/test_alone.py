@@ -7,7 +7,7 @@ import unittest
 
 from netrows import D, H, KINDS, L, M, R, T, V
 from netrows import Unchangeable, net, part, sample
-from restingnets.nets import judge, point
+from restingnets.nets import at, judge, point
 
 DIVIDER = net(2, part(V, (1, 0), 12), part(R, (1, 2), 3), part(R, (2, 0), 1))
 LAMP = net(2, part(V, (1, 0), 5), part(R, (1, 2), 2), part(D, (2, 0), 1), part(D, (0, 2), 1))
@@ -31,8 +31,15 @@ CASES = [
     (point, (), FIGHT, [-4]),
     (point, (), DIVIDER, [0]),
     (point, (), LAMP, [0, 1, 0]),
+    (at, (0, 0), [9], [-1]),
+    (at, (1, 0), NO_SQUARE, [-2, 2, 2]),
+    (at, (4, 0), FIGHT, [-3]),
+    (at, (0, 1), FIGHT, [-4]),
+    (at, (0, 2), DIVIDER, [0, 3, 1]),
+    (at, (3, 0), DIVIDER, [0, -36, 1]),
+    (at, (1, 2), LAMP, [0, 2, 1]),
 ]
-CALLS = [(judge, ()), (point, ())]
+CALLS = [(judge, ()), (point, ()), (at, (0, 1)), (at, (3, 0)), (at, (4, 9))]
 
 
 class Alone(unittest.TestCase):
@@ -73,8 +80,10 @@ class Alone(unittest.TestCase):
         self.assertEqual(point(row), [0, 1, 0])
         row[6] = -5
         self.assertEqual(point(row), [0, 0, 1])
+        self.assertEqual(at(0, 2, row), [0, -1, 1])
         row[6] = 1
         self.assertEqual(point(row), [0, 0, 0])
+        self.assertEqual(at(0, 2, row), [0, 1, 1])
 
     def test_a_list_of_whole_numbers_is_given_back(self):
         for call, asked, row, expected in CASES:

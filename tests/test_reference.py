@@ -10,7 +10,7 @@ from fractions import Fraction
 
 from netrows import C, D, E, F, G, H, I, KINDS, L, M, O, R, S, T, V
 from netrows import net, part
-from restingnets.nets import judge, point
+from restingnets.nets import at, judge, point
 
 
 class Reference:
@@ -126,6 +126,18 @@ class Reference:
                 return False
         return True
 
+    def quantity(self, what, k, solution):
+        if what == 0:
+            return solution[("node", k)]
+        a, b = self.parts[k][1:3]
+        voltage, current = solution[("node", a)] - solution[("node", b)], solution[("i", k)]
+        return (current, voltage, current * voltage)[what - 1]
+
+    def askable(self):
+        """Each quantity that there is, as what and k."""
+        parts = [k for k, numbers in enumerate(self.parts) if numbers[0] != M]
+        return [(0, node) for node in range(self.last_node + 1)] + list(itertools.product((1, 2, 3), parts))
+
     def point(self):
         """The states and the solution at the operating point, or None twice."""
         for row in itertools.product((0, 1), repeat=len(self.diodes)):
@@ -195,7 +207,15 @@ def networks(seed, count):
     return [random_net(source) for turn in range(count)]
 
 
-NETWORKS = networks(20261116, 1000)
+NETWORKS = networks(20261116, 600)
+
+
+def told(answer):
+    """The fraction of an answer, which has to be in lowest terms."""
+    assert answer[0] == 0 and len(answer) == 3 and answer[2] > 0
+    fraction = Fraction(answer[1], answer[2])
+    assert fraction.as_integer_ratio() == (answer[1], answer[2])
+    return fraction
 
 
 class AgainstTheReference(unittest.TestCase):
@@ -208,13 +228,13 @@ class AgainstTheReference(unittest.TestCase):
 
     def test_there_are_enough_of_each_sort(self):
         found = [row for row, reference, states, solution in self.cases if states is not None]
-        self.assertGreater(len(found), 200)
+        self.assertGreater(len(found), 150)
         self.assertGreater(len(self.cases) - len(found), 100)
         for kind in KINDS:
             self.assertGreater(len([row for row in found if kind in row[1::7]]), 10, kind)
         for count in range(1, 4):
             with_diodes = [states for row, reference, states, solution in self.cases if states and len(states) == count]
-            self.assertGreater(len([states for states in with_diodes if any(states.values())]), 10, count)
+            self.assertGreater(len([states for states in with_diodes if any(states.values())]), 5, count)
 
     def test_the_unknowns_are_as_many_as_the_laws(self):
         for row, reference, states, solution in self.cases:
@@ -226,6 +246,29 @@ class AgainstTheReference(unittest.TestCase):
             expected = [-4] if states is None else [0, *states.values()]
             with self.subTest(row=row):
                 self.assertEqual(point(row), expected)
+
+    def test_at(self):
+        for row, reference, states, solution in self.cases:
+            if states is None:
+                self.assertEqual(at(*reference.askable()[-1], row), [-4])
+                continue
+            for what, k in reference.askable():
+                with self.subTest(row=row, what=what, k=k):
+                    self.assertEqual(told(at(what, k, row)), reference.quantity(what, k, solution))
+
+    def test_all_powers_come_to_0_together(self):
+        for row, reference, states, solution in self.cases:
+            if states is None:
+                continue
+            powers = Fraction(0)
+            for k, (kind, a, b, c, d, top, bottom) in enumerate(reference.parts):
+                if kind != M:
+                    powers += told(at(3, k, row))
+                if kind == T:
+                    second_current = -reference.numbers[k] * told(at(1, k, row))
+                    powers += (told(at(0, c, row)) - told(at(0, d, row))) * second_current
+            with self.subTest(row=row):
+                self.assertEqual(powers, 0)
 
 
 if __name__ == "__main__":

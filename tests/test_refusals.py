@@ -4,12 +4,12 @@ import unittest
 
 from netrows import D, F, H, I, KINDS, L, M, R, S, V
 from netrows import changed, net, part, sample
-from restingnets.nets import judge, point
+from restingnets.nets import at, judge, point
 
 MOST = 4294967295
 
-# A call, and things to ask besides the row.
-CALLS = [(point, ())]
+# A call, and what to ask besides the row, things that there are and things that there are not.
+CALLS = [(point, ()), (at, (0, 0)), (at, (3, 1)), (at, (0, 2)), (at, (1, 63)), (at, (4, 0)), (at, (MOST, MOST))]
 
 FIGHT = (part(V, (1, 0), 1), part(V, (1, 0), 2))
 NO_ROWS = [

@@ -1,0 +1,16 @@
+"""Fractions as they are told."""
+
+
+def common_divisor(first, second):
+    """The greatest number that goes into both, by Euclid's way."""
+    while second != 0:
+        rest = first % second
+        first = second
+        second = rest
+    return abs(first)
+
+
+def lowest(top, bottom):
+    """The fraction in lowest terms as a list of two numbers; bottom is above 0."""
+    divisor = common_divisor(top, bottom)
+    return [top // divisor, bottom // divisor]
