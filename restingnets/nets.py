@@ -5,6 +5,7 @@ from restingnets.faults import first_fault
 from restingnets.points import diode_places, operating_point
 from restingnets.quantities import has_quantity, quantity
 from restingnets.rows import current_count, diode_count, is_row, parts_of
+from restingnets.slopes import has_slope, slope_by
 
 ANSWERED = 0
 NO_ROW = -1
@@ -58,3 +59,18 @@ def at(what, k, net):
     if found is None:
         return [NO_POINT]
     return [ANSWERED] + quantity(what, k, parts, columns, found.solution)
+
+
+def slope(what, k, e, net):
+    """Answers the slope of quantity what of node or element k by element e's number."""
+    refusal = refusal_of(net)
+    if refusal:
+        return refusal
+    parts = parts_of(net)
+    if not has_slope(what, k, e, parts, net[0]):
+        return [NO_SUCH]
+    columns = Columns(parts, net[0])
+    found = operating_point(parts, columns)
+    if found is None:
+        return [NO_POINT]
+    return [ANSWERED] + slope_by(what, k, e, parts, columns, found)

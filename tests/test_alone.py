@@ -7,7 +7,7 @@ import unittest
 
 from netrows import D, H, KINDS, L, M, R, T, V
 from netrows import Unchangeable, net, part, sample
-from restingnets.nets import at, judge, point
+from restingnets.nets import at, judge, point, slope
 
 DIVIDER = net(2, part(V, (1, 0), 12), part(R, (1, 2), 3), part(R, (2, 0), 1))
 LAMP = net(2, part(V, (1, 0), 5), part(R, (1, 2), 2), part(D, (2, 0), 1), part(D, (0, 2), 1))
@@ -38,8 +38,14 @@ CASES = [
     (at, (0, 2), DIVIDER, [0, 3, 1]),
     (at, (3, 0), DIVIDER, [0, -36, 1]),
     (at, (1, 2), LAMP, [0, 2, 1]),
+    (slope, (0, 0, 0), [9], [-1]),
+    (slope, (1, 0, 0), NO_SQUARE, [-2, 2, 2]),
+    (slope, (3, 0, 0), FIGHT, [-3]),
+    (slope, (0, 1, 0), FIGHT, [-4]),
+    (slope, (0, 2, 1), DIVIDER, [0, -3, 4]),
+    (slope, (1, 2, 2), LAMP, [0, -1, 2]),
 ]
-CALLS = [(judge, ()), (point, ()), (at, (0, 1)), (at, (3, 0)), (at, (4, 9))]
+CALLS = [(judge, ()), (point, ()), (at, (0, 1)), (at, (3, 0)), (at, (4, 9)), (slope, (0, 1, 0)), (slope, (2, 1, 1))]
 
 
 class Alone(unittest.TestCase):
@@ -81,6 +87,8 @@ class Alone(unittest.TestCase):
         row[6] = -5
         self.assertEqual(point(row), [0, 0, 1])
         self.assertEqual(at(0, 2, row), [0, -1, 1])
+        self.assertEqual(slope(0, 2, 2, row), [0, 0, 1])
+        self.assertEqual(slope(0, 2, 3, row), [0, -1, 1])
         row[6] = 1
         self.assertEqual(point(row), [0, 0, 0])
         self.assertEqual(at(0, 2, row), [0, 1, 1])

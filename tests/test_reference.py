@@ -10,7 +10,7 @@ from fractions import Fraction
 
 from netrows import C, D, E, F, G, H, I, KINDS, L, M, O, R, S, T, V
 from netrows import net, part
-from restingnets.nets import at, judge, point
+from restingnets.nets import at, judge, point, slope
 
 
 class Reference:
@@ -63,7 +63,7 @@ class Reference:
         if kind == O:
             return [(self.voltage(c, 0), self.voltage(d, 0), 0)]
         if kind == S:
-            return [(v if q == 1 else i, {}, 0)]
+            return [(v if top else i, {}, 0)]
         return [(v, {}, q) if on else (i, {}, 0)]
 
     def laws(self, states, s=0, more=()):
@@ -137,6 +137,14 @@ class Reference:
         """Each quantity that there is, as what and k."""
         parts = [k for k, numbers in enumerate(self.parts) if numbers[0] != M]
         return [(0, node) for node in range(self.last_node + 1)] + list(itertools.product((1, 2, 3), parts))
+
+    def changed(self, e, states, x):
+        """The solution with element e's number changed by x, the states being what they are."""
+        number = self.numbers[e]
+        self.numbers[e] = number + x
+        solution = self.solved(self.laws(states))
+        self.numbers[e] = number
+        return solution
 
     def point(self):
         """The states and the solution at the operating point, or None twice."""
@@ -269,6 +277,24 @@ class AgainstTheReference(unittest.TestCase):
                     powers += (told(at(0, c, row)) - told(at(0, d, row))) * second_current
             with self.subTest(row=row):
                 self.assertEqual(powers, 0)
+
+    def test_slope(self):
+        # So near that what goes with the square of x is nothing beside the least a wrong slope would be off.
+        near = Fraction(1, 10 ** 80)
+        for turn, (row, reference, states, solution) in enumerate(self.cases):
+            if states is None:
+                self.assertEqual(slope(0, 0, 0, row), [-4])
+                continue
+            for e in range(turn % 3, len(reference.parts), 3):
+                then = [(x, reference.changed(e, states, x)) for x in (near, -near)]
+                for what, k in reference.askable()[(turn + e) % 5::5]:
+                    if what < 3:
+                        now = reference.quantity(what, k, solution)
+                        straight = told(slope(what, k, e, row))
+                        for x, other in then:
+                            left = reference.quantity(what, k, other) - now - straight * x
+                            with self.subTest(row=row, what=what, k=k, e=e):
+                                self.assertLess(abs(left), near / 10 ** 40)
 
 
 if __name__ == "__main__":
