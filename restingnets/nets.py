@@ -2,6 +2,7 @@
 
 from restingnets.columns import Columns
 from restingnets.faults import first_fault
+from restingnets.opening import open_voltage, resistance
 from restingnets.points import diode_places, operating_point
 from restingnets.quantities import has_quantity, quantity
 from restingnets.rows import current_count, diode_count, is_row, parts_of
@@ -74,3 +75,18 @@ def slope(what, k, e, net):
     if found is None:
         return [NO_POINT]
     return [ANSWERED] + slope_by(what, k, e, parts, columns, found)
+
+
+def opened(a, b, net):
+    """Answers the open voltage and the resistance between nodes a and b."""
+    refusal = refusal_of(net)
+    if refusal:
+        return refusal
+    if a > net[0] or b > net[0]:
+        return [NO_SUCH]
+    parts = parts_of(net)
+    columns = Columns(parts, net[0])
+    found = operating_point(parts, columns)
+    if found is None:
+        return [NO_POINT]
+    return [ANSWERED] + open_voltage(a, b, columns, found) + resistance(a, b, parts, columns, found)

@@ -7,7 +7,7 @@ import unittest
 
 from netrows import D, H, KINDS, L, M, R, T, V
 from netrows import Unchangeable, net, part, sample
-from restingnets.nets import at, judge, point, slope
+from restingnets.nets import at, judge, opened, point, slope
 
 DIVIDER = net(2, part(V, (1, 0), 12), part(R, (1, 2), 3), part(R, (2, 0), 1))
 LAMP = net(2, part(V, (1, 0), 5), part(R, (1, 2), 2), part(D, (2, 0), 1), part(D, (0, 2), 1))
@@ -44,8 +44,17 @@ CASES = [
     (slope, (0, 1, 0), FIGHT, [-4]),
     (slope, (0, 2, 1), DIVIDER, [0, -3, 4]),
     (slope, (1, 2, 2), LAMP, [0, -1, 2]),
+    (opened, (0, 0), [9], [-1]),
+    (opened, (1, 0), NO_SQUARE, [-2, 2, 2]),
+    (opened, (2, 0), FIGHT, [-3]),
+    (opened, (1, 0), FIGHT, [-4]),
+    (opened, (2, 0), DIVIDER, [0, 3, 1, 3, 4]),
+    (opened, (1, 2), LAMP, [0, 4, 1, 0, 1]),
 ]
-CALLS = [(judge, ()), (point, ()), (at, (0, 1)), (at, (3, 0)), (at, (4, 9)), (slope, (0, 1, 0)), (slope, (2, 1, 1))]
+CALLS = [
+    (judge, ()), (point, ()), (at, (0, 1)), (at, (3, 0)), (at, (4, 9)), (slope, (0, 1, 0)), (slope, (2, 1, 1)),
+    (opened, (1, 0)), (opened, (0, 9)),
+]
 
 
 class Alone(unittest.TestCase):
@@ -92,6 +101,7 @@ class Alone(unittest.TestCase):
         row[6] = 1
         self.assertEqual(point(row), [0, 0, 0])
         self.assertEqual(at(0, 2, row), [0, 1, 1])
+        self.assertEqual(opened(0, 2, row), [0, -1, 1, 2, 1])
 
     def test_a_list_of_whole_numbers_is_given_back(self):
         for call, asked, row, expected in CASES:

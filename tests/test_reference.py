@@ -10,7 +10,7 @@ from fractions import Fraction
 
 from netrows import C, D, E, F, G, H, I, KINDS, L, M, O, R, S, T, V
 from netrows import net, part
-from restingnets.nets import at, judge, point, slope
+from restingnets.nets import at, judge, opened, point, slope
 
 
 class Reference:
@@ -67,7 +67,7 @@ class Reference:
         return [(v, {}, q) if on else (i, {}, 0)]
 
     def laws(self, states, s=0, more=()):
-        """All laws: terms and the number that they come to. More currents are told as (from, to, number)."""
+        """All laws: terms and the number that they come to. More currents of 1 are told as (from, to)."""
         laws = []
         for node in range(1, self.last_node + 1):
             terms = {}
@@ -145,6 +145,13 @@ class Reference:
         solution = self.solved(self.laws(states))
         self.numbers[e] = number
         return solution
+
+    def resistance(self, a, b, states):
+        numbers = self.numbers
+        self.numbers = [0 if row[0] in (V, I, D) else number for row, number in zip(self.parts, numbers)]
+        solution = self.solved(self.laws(states, more=[(b, a)]))
+        self.numbers = numbers
+        return solution[("node", a)] - solution[("node", b)]
 
     def point(self):
         """The states and the solution at the operating point, or None twice."""
@@ -295,6 +302,37 @@ class AgainstTheReference(unittest.TestCase):
                             left = reference.quantity(what, k, other) - now - straight * x
                             with self.subTest(row=row, what=what, k=k, e=e):
                                 self.assertLess(abs(left), near / 10 ** 40)
+
+    def test_opened(self):
+        for turn, (row, reference, states, solution) in enumerate(self.cases):
+            for a, b in list(itertools.product(range(row[0] + 1), repeat=2))[turn % 4::4]:
+                answer = opened(a, b, row)
+                if states is None:
+                    self.assertEqual(answer, [-4])
+                    break
+                with self.subTest(row=row, a=a, b=b):
+                    self.assertEqual(told(answer[:3]), solution[("node", a)] - solution[("node", b)])
+                    self.assertEqual(told([0, *answer[3:]]), reference.resistance(a, b, states))
+
+    def test_a_resistor_more_has_the_voltage_that_opened_says(self):
+        checked = 0
+        for turn, (row, reference, states, solution) in enumerate(self.cases):
+            if states is None or len(reference.parts) == 14:
+                continue
+            a, b = turn % (row[0] + 1), turn // 7 % (row[0] + 1)
+            number = Fraction(turn % 5 + 1, turn % 3 + 1)
+            answer = opened(a, b, row)
+            voltage, resistance = told(answer[:3]), told([0, *answer[3:]])
+            longer = row + part(R, (a, b), *number.as_integer_ratio())
+            # The words hold for the states at the point; with the resistor it may have others.
+            if number + resistance == 0 or point(longer) != point(row):
+                continue
+            checked += 1
+            with self.subTest(row=row, a=a, b=b):
+                self.assertEqual(
+                    told(at(2, len(reference.parts), longer)), voltage * number / (number + resistance),
+                )
+        self.assertGreater(checked, 100)
 
 
 if __name__ == "__main__":
