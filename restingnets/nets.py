@@ -5,6 +5,7 @@ from restingnets.faults import first_fault
 from restingnets.opening import open_voltage, resistance
 from restingnets.points import diode_places, operating_point
 from restingnets.quantities import has_quantity, quantity
+from restingnets.ranks import rank_and_solvable
 from restingnets.rows import current_count, diode_count, is_row, parts_of
 from restingnets.slopes import has_slope, slope_by
 
@@ -25,14 +26,18 @@ def refusal_of(net):
     return []
 
 
+def unknown_count(last_node, parts):
+    """How many voltages and currents the laws are to tell."""
+    return last_node + current_count(parts)
+
+
 def judge(net):
     """Answers N, how many elements, how many diodes and how many unknowns there are."""
     refusal = refusal_of(net)
     if refusal:
         return refusal
     parts = parts_of(net)
-    unknowns = net[0] + current_count(parts)
-    return [ANSWERED, net[0], len(parts), diode_count(parts), unknowns]
+    return [ANSWERED, net[0], len(parts), diode_count(parts), unknown_count(net[0], parts)]
 
 
 def point(net):
@@ -90,3 +95,12 @@ def opened(a, b, net):
     if found is None:
         return [NO_POINT]
     return [ANSWERED] + open_voltage(a, b, columns, found) + resistance(a, b, parts, columns, found)
+
+
+def rank(net):
+    """Answers how many unknowns there are, the laws' rank, and 1 if they have a solution, else 0."""
+    refusal = refusal_of(net)
+    if refusal:
+        return refusal
+    parts = parts_of(net)
+    return [ANSWERED, unknown_count(net[0], parts)] + rank_and_solvable(parts, Columns(parts, net[0]))

@@ -2,12 +2,13 @@
 
 
 def common_divisor(first, second):
-    """The greatest number that goes into both, by Euclid's way."""
+    """The greatest number that goes into both, by Euclid's way; second is above 0."""
     while second != 0:
         rest = first % second
         first = second
         second = rest
-    return abs(first)
+    # Every rest has the sign of what it was divided by, so this is above 0 like the second.
+    return first
 
 
 def lowest(top, bottom):

@@ -3,11 +3,12 @@
 import contextlib
 import io
 import itertools
+import random
 import unittest
 
 from netrows import D, H, KINDS, L, M, R, T, V
 from netrows import Unchangeable, net, part, sample
-from restingnets.nets import at, judge, opened, point, slope
+from restingnets.nets import at, judge, opened, point, rank, slope
 
 DIVIDER = net(2, part(V, (1, 0), 12), part(R, (1, 2), 3), part(R, (2, 0), 1))
 LAMP = net(2, part(V, (1, 0), 5), part(R, (1, 2), 2), part(D, (2, 0), 1), part(D, (0, 2), 1))
@@ -50,10 +51,15 @@ CASES = [
     (opened, (1, 0), FIGHT, [-4]),
     (opened, (2, 0), DIVIDER, [0, 3, 1, 3, 4]),
     (opened, (1, 2), LAMP, [0, 4, 1, 0, 1]),
+    (rank, (), [9], [-1]),
+    (rank, (), NO_SQUARE, [-2, 2, 2]),
+    (rank, (), FIGHT, [0, 3, 2, 0]),
+    (rank, (), DIVIDER, [0, 5, 5, 1]),
+    (rank, (), LAMP, [0, 6, 6, 1]),
 ]
 CALLS = [
     (judge, ()), (point, ()), (at, (0, 1)), (at, (3, 0)), (at, (4, 9)), (slope, (0, 1, 0)), (slope, (2, 1, 1)),
-    (opened, (1, 0)), (opened, (0, 9)),
+    (opened, (1, 0)), (opened, (0, 9)), (rank, ()),
 ]
 
 
@@ -74,6 +80,18 @@ class Alone(unittest.TestCase):
         for before, after in itertools.product(CASES, CASES):
             for call, asked, row, expected in (before, after, after):
                 self.assertEqual(call(*asked, row), expected)
+
+    def test_in_any_order_of_calls(self):
+        source = random.Random(4)
+        for turn in range(50):
+            for call, asked, row, expected in source.sample(CASES, len(CASES)):
+                self.assertEqual(call(*asked, row), expected)
+
+    def test_one_list_handed_to_every_call(self):
+        row = Unchangeable(LAMP)
+        for turn in range(2):
+            told = [call(*asked, row) for call, asked, other, expected in CASES if other == LAMP]
+            self.assertEqual(told, [expected for call, asked, other, expected in CASES if other == LAMP])
 
     def test_what_is_done_with_an_answer_does_not_matter(self):
         for call, asked, row, expected in CASES:
@@ -102,6 +120,9 @@ class Alone(unittest.TestCase):
         self.assertEqual(point(row), [0, 0, 0])
         self.assertEqual(at(0, 2, row), [0, 1, 1])
         self.assertEqual(opened(0, 2, row), [0, -1, 1, 2, 1])
+        row[0] = 3
+        self.assertEqual(point(row), [-4])
+        self.assertEqual(rank(row), [0, 7, 6, 1])
 
     def test_a_list_of_whole_numbers_is_given_back(self):
         for call, asked, row, expected in CASES:

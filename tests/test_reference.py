@@ -10,7 +10,7 @@ from fractions import Fraction
 
 from netrows import C, D, E, F, G, H, I, KINDS, L, M, O, R, S, T, V
 from netrows import net, part
-from restingnets.nets import at, judge, opened, point, slope
+from restingnets.nets import at, judge, opened, point, rank, slope
 
 
 class Reference:
@@ -333,6 +333,17 @@ class AgainstTheReference(unittest.TestCase):
                     told(at(2, len(reference.parts), longer)), voltage * number / (number + resistance),
                 )
         self.assertGreater(checked, 100)
+
+    def test_rank(self):
+        found = []
+        for row, reference, states, solution in self.cases:
+            left, told_by_others = reference.reduced(reference.laws(states or {}))
+            solvable = 0 if any(number for terms, number in left) else 1
+            with self.subTest(row=row):
+                self.assertEqual(rank(row), [0, len(reference.unknowns), len(told_by_others), solvable])
+            found.append((len(told_by_others) == len(reference.unknowns), solvable))
+        for sort in ((True, 1), (False, 0), (False, 1)):
+            self.assertGreater(found.count(sort), 50, sort)
 
 
 if __name__ == "__main__":

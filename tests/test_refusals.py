@@ -4,7 +4,7 @@ import unittest
 
 from netrows import D, F, H, I, KINDS, L, M, R, S, V
 from netrows import changed, net, part, sample
-from restingnets.nets import at, judge, opened, point, slope
+from restingnets.nets import at, judge, opened, point, rank, slope
 
 MOST = 4294967295
 
@@ -13,7 +13,7 @@ CALLS = [
     (point, ()), (at, (0, 0)), (at, (3, 1)), (at, (0, 2)), (at, (1, 63)), (at, (4, 0)), (at, (MOST, MOST)),
     (slope, (0, 0, 0)), (slope, (2, 0, 1)), (slope, (3, 0, 0)), (slope, (0, 63, 0)), (slope, (0, 0, 63)),
     (slope, (MOST, MOST, MOST)), (opened, (0, 0)), (opened, (1, 0)), (opened, (2, 0)), (opened, (0, 63)),
-    (opened, (MOST, MOST)),
+    (opened, (MOST, MOST)), (rank, ()),
 ]
 
 FIGHT = (part(V, (1, 0), 1), part(V, (1, 0), 2))
